@@ -1,0 +1,92 @@
+"""The examples of DOC.md, as they stand there."""
+
+import unittest
+
+EXAMPLES = """
+>>> from unseendials.placing import ranking_world
+>>> from unseendials.rankings import Ranking
+>>> world = ranking_world(Ranking([['x'], ['fx'], ['ffx']]), steps=5, at=[0, 2, 3], greatest=True)
+>>> [world.table_of('f'), world('ffx')]
+[[2, 3, 3, 4, 4], 3]
+
+>>> from unseendials.listings import walk_rankings
+>>> rows = list(walk_rankings(['ffx']))
+>>> [rows[0].rank_list(), rows[1].rank_list(), rows[2].rank_list(), rows[3].rank_list(), rows[4].rank_list()]
+[[0, 0, 0], [0, 1, 1], [0, 1, 2], [1, 0, 0], [2, 1, 0]]
+
+>>> from unseendials.facts import Facts
+>>> from unseendials.rows import rows_on
+>>> [rows_on(['ffx'], None, 3), rows_on(['ffx'], Facts(('1', 'f')), 3)]
+[11, 7]
+
+>>> from unseendials.facts import Facts
+>>> from unseendials.worlds import World
+>>> World(3, {}, {'a': [0, 1, 1], 'b': [0, 0, 2]}, Facts(('a', 'b')))
+raises BrokenFact(low='a', high='b', at=1)
+
+>>> from unseendials.rowforms import high_rows, low_rows
+>>> from unseendials.terms import word_term
+>>> from unseendials.worlds import World
+>>> term = (word_term('x') | word_term('gx')).through('f') & word_term('y')
+>>> world = World(4, {'x': 1, 'y': 2}, {'f': [0, 2, 2, 3], 'g': [1, 1, 3, 3]})
+>>> [term.written(), term.value_in(world), high_rows(term), low_rows(term)]
+['(f(x | gx) & y)', 2, [['y', 'fx'], ['y', 'fgx']], [['y'], ['fx', 'fgx']]]
+
+>>> from unseendials.completions import greatest_world, least_world, stretch
+>>> from unseendials.counting import count_tables
+>>> from unseendials.facts import Facts
+>>> from unseendials.sketches import Sketch
+>>> sketch = Sketch(5, Facts(('1', 'f')))
+>>> sketch.read('f', 1, 1)
+>>> sketch.read('f', 3, 4)
+>>> tables = [least_world(sketch).table_of('f'), greatest_world(sketch).table_of('f')]
+>>> [tables, stretch(sketch, 'f', 2), count_tables(sketch, 'f')]
+[[[0, 1, 2, 4, 4], [1, 1, 4, 4, 4]], (2, 4), 6]
+
+>>> from unseendials.completions import stretch
+>>> from unseendials.facts import Facts
+>>> from unseendials.sketches import Sketch
+>>> sketch = Sketch(4, Facts(paired='a'))
+>>> sketch.read('A', 1, 2)
+>>> [stretch(sketch, 'A', 0), stretch(sketch, 'A', 2), stretch(sketch, 'a', 3)]
+[(0, 2), (2, 3), (2, 3)]
+
+>>> from unseendials.facts import Facts
+>>> from unseendials.keeping import broken
+>>> from unseendials.rankings import Ranking
+>>> broken(Ranking([['Aax'], ['x'], ['ax']]), Facts(paired='a'))
+(3, 'a', 'a', 'x', 'ax')
+"""
+
+
+def answer_of(line, names):
+    """Return what an expression gives, written as DOC.md writes it, '' for a statement."""
+    try:
+        code = compile(line, "example", "eval")
+    except SyntaxError:
+        exec(line, names)
+        return ""
+    try:
+        worth = eval(code, names)
+    except ValueError as error:
+        fields = ", ".join(f"{name}={field!r}" for name, field in vars(error).items())
+        return f"raises {type(error).__name__}({fields})"
+    return "" if worth is None else repr(worth)
+
+
+class TestExamples(unittest.TestCase):
+
+    def test_all(self):
+        blocks = EXAMPLES.strip().split("\n\n")
+        self.assertEqual(len(blocks), 8)
+        for block in blocks:
+            names = {}
+            lines = block.split("\n") + [">>> None"]
+            for line, behind in zip(lines, lines[1:]):
+                if line.startswith(">>> "):
+                    expected = "" if behind.startswith(">>> ") else behind
+                    self.assertEqual(answer_of(line[4:], names), expected, line)
+
+
+if __name__ == "__main__":
+    unittest.main()

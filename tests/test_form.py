@@ -1,0 +1,126 @@
+"""The form of the package: rules of LANGUAGE.md, and the names of the interface."""
+
+import importlib
+import inspect
+import pathlib
+import unittest
+
+from form_rules import faults_of
+
+ROOT = pathlib.Path(__file__).resolve().parent.parent
+FOLDER = ROOT / "unseendials"
+
+FUNCTIONS = {
+    "words": "is_word(text) heads(word) tails(word) first_letter(word) rest_of(word) point_of(word) "
+             "in_order(words) tail_set(words) dials_of(words) points_of(words) partner(letter) "
+             "replace_dials(word,heads)",
+    "tables": "rising(table) back_table(table) threshold(table,least) put_on(outer,inner) "
+              "lesser_table(one,other) greater_table(one,other) walk_tables(steps)",
+    "terms": "word_term(word)",
+    "rowforms": "high_rows(term) low_rows(term) term_of_rows(rows,*,high=True)",
+    "made": "made_table(term,world) replaced_world(world,heads)",
+    "completions": "least_world(sketch,dials=()) greatest_world(sketch,dials=()) "
+                   "clamp(sketch,world) is_completion(sketch,world) stretch(sketch,letter,at)",
+    "letters": "lies_below(facts,first,second) letter_against(facts,first,second)",
+    "counting": "count_between(low,high) count_tables(sketch,dial) tables_on(steps) "
+                "never_lower_on(steps) pairs_on(steps) grounded_on(steps)",
+    "keeping": "broken(ranking,facts=None) keeps(ranking,facts=None)",
+    "listings": "walk_rankings(words,facts=None) group_counts(words,facts=None)",
+    "placing": "ranking_sketch(ranking,facts=None,*,steps=None,at=None) "
+               "ranking_world(ranking,facts=None,*,steps=None,at=None,greatest=False)",
+    "rows": "rows_on(words,facts,steps) row_count(counts,steps)",
+}
+CLASSES = {
+    ("facts", "Facts"): "__init__(self,*below,paired='') listed(pairs,paired='') "
+                        "under(self,low,high) path(self,low,high) has_pair(self,letter) "
+                        "dial_list(self) within(self,other) mirrored(self) turned(self) "
+                        "__eq__ __or__ __len__ __iter__ __contains__ paired",
+    ("worlds", "World"): "__init__(self,steps,places,tables,facts=None) "
+                         "still(steps,places,*dials,facts=None) point_list(self) dial_list(self) "
+                         "place_of(self,point) table_of(self,letter) head_table(self,head) "
+                         "__call__(self,word) placed(self,places) moved(self,**places) "
+                         "__and__ __or__ __eq__ steps facts",
+    ("terms", "Term"): "word_list(self) point_list(self) written(self) value_in(self,world) "
+                       "through(self,head) __call__(self,other) __and__ __or__ __eq__",
+    ("terms", "WordTerm"): "__init__(self,word)",
+    ("terms", "ThroughTerm"): "__init__(self,letter,inner)",
+    ("terms", "PairTerm"): "__init__(self,left,right)",
+    ("terms", "Lesser"): "__init__(self,left,right)",
+    ("terms", "Greater"): "__init__(self,left,right)",
+    ("sketches", "Sketch"): "__init__(self,steps,facts=None,*,places=None) "
+                            "read(self,letter,at,shown) clash_of(self,letter,at,shown) "
+                            "entry_list(self) twin(self) place_of(self,point) point_list(self) "
+                            "__len__ __contains__ steps facts",
+    ("rankings", "Ranking"): "__init__(self,groups) rank_of(self,word) below(self,p,q) "
+                             "word_list(self) rank_list(self) only(self,words) top_cuts(self) "
+                             "of_world(words,world) of_ranks(words,ranks) "
+                             "__len__ __iter__ __contains__ __eq__",
+}
+
+
+def sources():
+    return {path.name: path.read_text(encoding="utf-8") for path in sorted(FOLDER.glob("*.py"))}
+
+
+def signature(call):
+    return str(inspect.signature(call)).replace(" ", "")
+
+
+class TestRules(unittest.TestCase):
+
+    def test_no_faults(self):
+        self.assertEqual(faults_of(sources()), [])
+
+    def test_just_python_files(self):
+        others = [path.name for path in FOLDER.iterdir() if path.suffix != ".py"]
+        self.assertLessEqual(set(others), {"__pycache__"})
+        self.assertTrue((FOLDER / "__init__.py").exists())
+        self.assertLessEqual(len(sources()), 100)
+
+    def test_faults_are_found(self):
+        lines = {
+            "L2": "from os import path", "L3": "print(1)", "L16": "import heapq",
+            "L7 float": "def f(x):\n    return x * 1.5", "L7 op": "def f(x):\n    return x / 2",
+            "L8": "def f(x):\n    return eval(x)", "L24": "def f(x):\n    y = set(x)\n    return y",
+            "L25": "def f(x):\n    return x.encode()", "L20": "def f(x, y):\n    return x is y",
+            "L23": "def f(x):\n    y = zip(x, x)\n    return y", "L4": "def f(x=[]):\n    return x",
+            "L27": "def f(x):\n    return 'a%'", "L14": "# \u00e4",
+            "L10": "def f(x):\n" + "    x += 1\n" * 40 + "    return x",
+            "L28": "class A:\n    def __eq__(self, other):\n        x = other\n        return x",
+            "L5": "class A:\n    def __hash__(self):\n        return 1",
+            "L12": "def f(type):\n    return 1", "L18": "def f(x):\n    return x.nowhere",
+            "L19": "def f(x):\n    raise x", "L22": "def f(x):\n    return sorted(a=x)",
+        }
+        for rule, text in lines.items():
+            with self.subTest(rule=rule):
+                faults = faults_of({"some.py": text})
+                self.assertTrue(any(fault.startswith(rule) for fault in faults), faults)
+
+
+class TestInterface(unittest.TestCase):
+
+    def test_functions(self):
+        for name, told in FUNCTIONS.items():
+            module = importlib.import_module(f"unseendials.{name}")
+            for line in told.split():
+                call = getattr(module, line.partition("(")[0])
+                with self.subTest(name=name, line=line):
+                    self.assertEqual(call.__name__ + signature(call), line)
+                    self.assertEqual(call.__module__, module.__name__)
+
+    def test_classes(self):
+        for (name, kind), told in CLASSES.items():
+            found = getattr(importlib.import_module(f"unseendials.{name}"), kind)
+            self.assertEqual(found.__module__, f"unseendials.{name}")
+            for line in told.split():
+                with self.subTest(kind=kind, line=line):
+                    part = line.partition("(")[0]
+                    self.assertIn(part, vars(found))
+                    if "(" in line:
+                        self.assertEqual(part + signature(getattr(found, part)), line)
+                    if part in ("steps", "facts", "paired"):
+                        self.assertIsInstance(vars(found)[part], property)
+
+
+if __name__ == "__main__":
+    unittest.main()

@@ -1,0 +1,1 @@
+"""Unseendials: what holds for dials that nobody sees, on all chains."""
