@@ -65,11 +65,15 @@ class TestKeeping(DialCase):
     def test_kept_exactly_if_some_world_ranks_so(self):
         for facts, words in CASES:
             tails = tail_set(words)
-            if len(tails) > 3 or len(set(dials_of(words) + facts.dial_list())) > 2:
+            dials = sorted(set(dials_of(words) + facts.dial_list()))
+            if len(tails) > 3 or len(dials) > 2:
+                continue
+            # A dial besides the paired one is looked at under one fact alone, to save time.
+            if facts.paired and "f" in dials and not facts.under("f", "1"):
                 continue
             steps = len(tails) + (2 if facts.paired else 0)
             told = {Ranking.of_world(words, world).groups for world in
-                    walk_worlds(facts, steps, dials_of(words), "".join(points_of(words)))}
+                    walk_worlds(facts, steps, dials, "".join(points_of(words)))}
             kept = {Ranking.of_ranks(tails, ranks).groups for ranks in weak_orders(len(tails))
                     if keeps(Ranking.of_ranks(tails, ranks), facts)}
             self.assertEqual(told, kept)

@@ -169,6 +169,9 @@ class TestPutting(DialCase):
         self.tells(BadWord("fg" + "f" * 38 + "x"), word_term("fgx"),
                    word_term("f" * 38 + "x") & word_term("y"))
         self.tells(BadWord("g" + "f" * 39 + "y"), s, t)
+        # The words are put together in another order than word order.
+        self.tells(BadWord("fg" + "f" * 38 + "y"), word_term("hx") | word_term("fgx"),
+                   word_term("f" * 38 + "y") | word_term("f" * 39 + "y"))
         self.assertEqual(word_term("f" * 20 + "x")(word_term("g" * 19 + "y")).word,
                          "f" * 20 + "g" * 19 + "y")
 

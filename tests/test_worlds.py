@@ -230,6 +230,8 @@ class TestTogether(DialCase):
                         == World(2, {"y": 1, "x": 0}, {"g": [0, 1], "f": [0, 0]}))
         self.assertFalse(World(2, {}, {"f": [0, 0]}) == World(2, {}, {"f": [0, 1]}))
         self.assertTrue(World(2, {}, {}) != "world")
+        self.assertFalse(World(2, {}, {}) == World(3, {}, {}))
+        self.tells(Unlike(), lambda: World(2, {}, {}) & World(3, {}, {}))
 
 
 if __name__ == "__main__":

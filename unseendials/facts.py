@@ -124,7 +124,7 @@ class Facts:
         return isinstance(other, Facts) and self.within(other) and other.within(self)
 
     def __or__(self, other):
-        return Facts.listed([*self._rows, *list(other)], self._paired + other.paired)
+        return Facts.listed(list(self._rows) + list(other), self._paired + other.paired)
 
     def __len__(self):
         return len(self._rows)
@@ -133,4 +133,4 @@ class Facts:
         return iter(self._rows)
 
     def __contains__(self, pair):
-        return isinstance(pair, tuple) and pair in self._rows
+        return pair in self._rows

@@ -20,7 +20,8 @@ def _chain_steps(steps, stands, edge):
     """Return the number of steps of the chain."""
     if steps is not None:
         return steps
-    return stands[-1] + 1 + edge if stands else 1
+    # Without any step the chain does not matter: no ranking has so few groups.
+    return stands[-1] + 1 + edge if stands else 0
 
 
 def _check_stands(stands, ranking, many, edge):

@@ -2,9 +2,16 @@
 
 from unseendials.errors import TooLarge
 from unseendials.terms import Greater, Lesser, ThroughTerm, WordTerm
-from unseendials.words import check_words
 
 MOST_ROWS = 64
+
+
+def _holds_one(mask, rows):
+    """Return whether a row holds all words of one of the rows."""
+    for row in rows:
+        if row & mask == row:
+            return True
+    return False
 
 
 def _least_rows(masks):
@@ -12,7 +19,7 @@ def _least_rows(masks):
     kept = []
     # A row that is a part of another one is the lesser number, so it is met first.
     for mask in sorted(set(masks)):
-        if not any([row & mask == row for row in kept]):
+        if not _holds_one(mask, kept):
             kept.append(mask)
             if len(kept) > MOST_ROWS:
                 raise TooLarge("rows")
@@ -65,6 +72,5 @@ def _joined(terms, lesser):
 
 def term_of_rows(rows, *, high=True):
     """Return the greatest of the lessers of the rows, or the least of the greaters."""
-    check_words([word for row in rows for word in row])
     terms = [_joined([WordTerm(word) for word in row], high) for row in rows]
     return _joined(terms, not high)

@@ -4,14 +4,13 @@ from unseendials.checks import check_places, check_steps
 from unseendials.errors import BadEntry, Clash, NoPlace
 from unseendials.facts import told_facts
 from unseendials.spots import clash_rule, entry_of, spot_of, spots_besides, spots_clash
-from unseendials.words import is_capital, is_small
+from unseendials.words import is_small
 from unseendials.worlds import World
 
 
 def check_entry(sketch, letter, at, shown):
     """Raise BadEntry if a sketch can have no entry with this letter and these steps."""
-    backed = is_capital(letter) and sketch.facts.has_pair(letter)
-    if not backed and not is_small(letter):
+    if not is_small(letter) and not sketch.facts.has_pair(letter):
         raise BadEntry(letter, at, shown)
     if not 0 <= at < sketch.steps or not 0 <= shown < sketch.steps:
         raise BadEntry(letter, at, shown)
@@ -90,4 +89,4 @@ class Sketch:
         return len(self._entries)
 
     def __contains__(self, entry):
-        return isinstance(entry, tuple) and entry in self._entries
+        return entry in self._entries
