@@ -19,6 +19,29 @@ EXAMPLES = """
 >>> [rows_on(['ffx'], None, 3), rows_on(['ffx'], Facts(('1', 'f')), 3)]
 [11, 7]
 
+>>> from unseendials.closings import Closing
+>>> closing = Closing(['fx', 'fy'], None, [('x', 'y')])
+>>> [closing.pair_list(), closing.reason_of('fx', 'fy')]
+[[('x', 'y'), ('fx', 'fy')], ('rule', 1, 'f', 'f', ('x', 'y'))]
+
+>>> from unseendials.comparisons import Tale, lt
+>>> from unseendials.deciding import is_refutation
+>>> from unseendials.trees import Case, Leaf
+>>> tale = Tale(lt('fy', 'gx'), lt('gy', 'fx'), lt('hx', 'ky'), lt('kx', 'hy'))
+>>> is_refutation(Case('x', 'y', Leaf('gy', 'fx'), Leaf('kx', 'hy')), tale)
+True
+
+>>> from unseendials.comparisons import Tale, lt
+>>> from unseendials.leastchain import least_chain
+>>> least_chain(Tale(lt('fx', 'ffx')))
+3
+
+>>> from unseendials.comparisons import Tale, lt
+>>> from unseendials.following import consequences
+>>> rows = consequences(Tale(lt('fx', 'fy')))
+>>> [len(rows), rows[0].written(), rows[1].written()]
+[2, 'x < y', 'fx < fy']
+
 >>> from unseendials.facts import Facts
 >>> from unseendials.worlds import World
 >>> World(3, {}, {'a': [0, 1, 1], 'b': [0, 0, 2]}, Facts(('a', 'b')))
@@ -56,6 +79,12 @@ raises BrokenFact(low='a', high='b', at=1)
 >>> from unseendials.rankings import Ranking
 >>> broken(Ranking([['Aax'], ['x'], ['ax']]), Facts(paired='a'))
 (3, 'a', 'a', 'x', 'ax')
+
+>>> from unseendials.comparisons import Tale, lt
+>>> from unseendials.fewest import fewest_cases, standing
+>>> tale = Tale(lt('ffx', 'fx'), lt('hx', 'hfx'))
+>>> [fewest_cases(tale), standing(tale, height=0).height, standing(tale, height=1)]
+[1, 0, None]
 """
 
 
@@ -78,7 +107,7 @@ class TestExamples(unittest.TestCase):
 
     def test_all(self):
         blocks = EXAMPLES.strip().split("\n\n")
-        self.assertEqual(len(blocks), 8)
+        self.assertEqual(len(blocks), 13)
         for block in blocks:
             names = {}
             lines = block.split("\n") + [">>> None"]

@@ -29,6 +29,16 @@ FUNCTIONS = {
     "placing": "ranking_sketch(ranking,facts=None,*,steps=None,at=None) "
                "ranking_world(ranking,facts=None,*,steps=None,at=None,greatest=False)",
     "rows": "rows_on(words,facts,steps) row_count(counts,steps)",
+    "comparisons": "le(p,q) lt(p,q)",
+    "closings": "closing_of(tale,facts=None,*,strict=False)",
+    "deciding": "decide(tale,facts=None) possible(tale,facts=None) "
+                "is_refutation(node,tale,facts=None,*,steps=None,strict=False)",
+    "fewest": "fewest_cases(tale,facts=None,*,strict=False) "
+              "fewest_tree(tale,facts=None,*,strict=False) "
+              "standing(tale,facts=None,*,height,strict=False)",
+    "leastchain": "least_chain(tale,facts=None) chain_world(tale,facts=None) "
+                  "chain_tree(tale,facts=None,*,steps)",
+    "following": "follows(tale,comparison,facts=None) consequences(tale,facts=None)",
 }
 CLASSES = {
     ("facts", "Facts"): "__init__(self,*below,paired='') listed(pairs,paired='') "
@@ -55,6 +65,20 @@ CLASSES = {
                              "word_list(self) rank_list(self) only(self,words) top_cuts(self) "
                              "of_world(words,world) of_ranks(words,ranks) "
                              "__len__ __iter__ __contains__ __eq__",
+    ("comparisons", "Comparison"): "__init__(self,first,sign,second) written(self) "
+                                   "holds_in(self,world) __invert__ __eq__",
+    ("comparisons", "Tale"): "__init__(self,*comparisons,words=()) listed(comparisons,words=()) "
+                             "tail_list(self) told(self,comparison) without(self,at) "
+                             "borne_by(self,world) __add__ __len__ __iter__",
+    ("closings", "Closing"): "__init__(self,words,facts,weak,*,strict=False) holds(self,p,q) "
+                             "pair_list(self) reason_of(self,p,q)",
+    ("trees", "Node"): "",
+    ("trees", "Leaf"): "__init__(self,first,second) in_a_row(self) leaf_list(self)",
+    ("trees", "Case"): "__init__(self,first,second,left,right) in_a_row(self) leaf_list(self)",
+    ("trees", "Crowd"): "__init__(self,crowd,branches) in_a_row(self) leaf_list(self)",
+    ("fewest", "Standing"): "__init__(self,height,answers) answer_of(self,p,q)",
+    ("setworlds", "SetWorld"): "__init__(self,tale,facts=None) set_of(self,word) "
+                               "shown_by(self,dial,words) bears(self)",
 }
 
 

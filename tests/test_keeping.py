@@ -2,24 +2,12 @@
 
 import unittest
 
+from brute import rule_sides
 from helpers import SOME_FACTS, DialCase, parts_under, walk_worlds, weak_orders
 from unseendials.facts import Facts
 from unseendials.keeping import broken, keeps
 from unseendials.rankings import Ranking
 from unseendials.words import dials_of, points_of, tail_set
-
-
-def front(letter, word):
-    return word if letter == "1" else letter + word
-
-
-def rule_sides(rule, a, b, p, q):
-    """Return the comparison that a rule starts from and the one that it gives."""
-    back_a, back_b = a.upper(), b.upper()
-    return {1: ((p, q), (front(a, p), front(b, q))),
-            2: ((p, front(back_b, q)), (front(a, p), q)),
-            3: ((front(b, p), q), (p, front(back_a, q))),
-            4: ((p, q), (front(back_b, p), front(back_a, q)))}[rule]
 
 
 def breaks(ranking, facts, rule, a, b, p, q):
