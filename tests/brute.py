@@ -4,11 +4,14 @@ import functools
 import itertools
 import random
 
-from helpers import back_of, parts_under, weak_orders
+from helpers import back_of, parts_under, table_choices, weak_orders
+from unseendials.claims import Claim
 from unseendials.comparisons import Comparison, Tale
 from unseendials.facts import Facts
+from unseendials.terms import Lesser, WordTerm, word_term
 from unseendials.trees import Case, Crowd, Leaf
 from unseendials.words import dials_of, points_of, tail_set
+from unseendials.worlds import World
 
 
 def front(letter, word):
@@ -173,17 +176,70 @@ def some_tales(seed, many, words_of, most, facts, most_told=4):
 
 PLAIN_WORDS = ["x", "y", "fx", "fy", "gx", "gy", "ffx", "fgx", "gfx", "fgy", "hx", "hfx", "fffx"]
 PAIRED_WORDS = ["x", "y", "ax", "ay", "Ax", "Ay", "aAx", "Aax", "fx", "fax", "Afx", "fAx", "aax"]
+PLAIN_FACTS = [Facts(), Facts(("f", "g")), Facts(("1", "f")), Facts(("f", "1")),
+               Facts(("f", "1"), ("1", "g")), Facts(("f", "g"), ("g", "f"))]
+PAIRED_FACTS = [Facts(paired="a"), Facts(("1", "a"), paired="a"), Facts(("a", "1"), paired="a"),
+                Facts(("f", "1"), ("1", "a"), paired="a")]
 
 
 def tales_with_facts(seed, many, most, most_told=4):
     """Return pairs of a tale and facts: plain ones first, then those with paired dials."""
-    plain = [Facts(), Facts(("f", "g")), Facts(("1", "f")), Facts(("f", "1")),
-             Facts(("f", "1"), ("1", "g")), Facts(("f", "g"), ("g", "f"))]
-    paired = [Facts(paired="a"), Facts(("1", "a"), paired="a"), Facts(("a", "1"), paired="a"),
-              Facts(("f", "1"), ("1", "a"), paired="a")]
     rows = []
-    for kinds, words in ((plain, PLAIN_WORDS), (paired, PAIRED_WORDS)):
+    for kinds, words in ((PLAIN_FACTS, PLAIN_WORDS), (PAIRED_FACTS, PAIRED_WORDS)):
         for at, facts in enumerate(kinds):
             rows.extend((tale, facts) for tale in
                         some_tales(seed + at, many, words, most, facts, most_told))
     return rows
+
+
+def claim_holds(ranks, claim):
+    """Return whether a claim holds for numbers of words."""
+    return any(ranks[one] <= ranks[other] for label in claim.label_list()
+               for above, below in [claim.side_of(label)] for one in above for other in below)
+
+
+def some_claims(seed, many, words, most):
+    """Return claims over words chosen from a list, with at most that many tails."""
+    luck = random.Random(seed)
+    claims = []
+    while len(claims) < many:
+        labels = luck.sample("uvwxyz", luck.randint(1, 3))
+        rows = [(label, luck.sample(words, luck.randint(0, 2)), luck.sample(words, luck.randint(0, 2)))
+                for label in labels]
+        rows = [row for row in rows if row[1] or row[2]]
+        if rows and len(tail_set([word for row in rows for word in row[1] + row[2]])) <= most:
+            claims.append(Claim(rows))
+    return claims
+
+
+def claims_with_facts(seed, many, most):
+    """Return pairs of a claim and facts: plain ones first, then those with paired dials."""
+    rows = [(claim, facts) for at, facts in enumerate(PLAIN_FACTS)
+            for claim in some_claims(seed + at, many, PLAIN_WORDS, most)]
+    return rows + [(claim, facts) for at, facts in enumerate(PAIRED_FACTS)
+                   for claim in some_claims(seed + 50 + at, many, PAIRED_WORDS, most)]
+
+
+def some_term(luck, words, size):
+    """Return a term over the words, joined and led by letters at random."""
+    if size == 1:
+        return word_term(luck.choice(words))
+    cut = luck.randint(1, size - 1)
+    left, right = some_term(luck, words, cut), some_term(luck, words, size - cut)
+    return left & right if luck.random() < 0.5 else left | right
+
+
+def term_value(ranks, term):
+    """Return the value of a term for numbers of words, by its high rows told in DOC.md."""
+    if isinstance(term, WordTerm):
+        return ranks[term.word]
+    sides = term_value(ranks, term.left), term_value(ranks, term.right)
+    return min(sides) if isinstance(term, Lesser) else max(sides)
+
+
+def some_worlds(seed, many, facts, dials, points):
+    """Return worlds on two or three steps with these dials, those of the facts, and points."""
+    luck = random.Random(seed)
+    choices = [(steps, tables) for steps in (1, 2, 3) for tables in table_choices(facts, steps, dials)]
+    return [World(steps, {point: luck.randrange(steps) for point in points}, tables, facts)
+            for steps, tables in luck.choices(choices, k=many)]

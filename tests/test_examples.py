@@ -42,6 +42,30 @@ True
 >>> [len(rows), rows[0].written(), rows[1].written()]
 [2, 'x < y', 'fx < fy']
 
+>>> from unseendials.cuts import walk_cuts
+>>> from unseendials.facts import Facts
+>>> list(walk_cuts(['x', 'fx'], Facts(('1', 'f'))))
+[[], ['fx'], ['x', 'fx']]
+
+>>> from unseendials.choices import count_terms
+>>> count_terms(['x', 'y', 'fx', 'fy'])
+82
+
+>>> from unseendials.facts import Facts
+>>> from unseendials.terms import word_term
+>>> from unseendials.thinning import thin_rows
+>>> term = word_term('y') | (word_term('x') & word_term('fx'))
+>>> thin_rows(term, Facts(('1', 'f')))
+[['y'], ['x']]
+
+>>> from unseendials.claims import Claim
+>>> from unseendials.cutworlds import failing_numbers
+>>> from unseendials.worlds import World
+>>> claim = Claim.named(u=(['fgx'], ['y', 'gx']), v=(['y'], ['fx']))
+>>> world = World(4, {'x': 0, 'y': 2}, {'f': [0, 3, 3, 3], 'g': [1, 1, 1, 1]})
+>>> failing_numbers(claim, world)
+{'u': 3, 'v': 2}
+
 >>> from unseendials.facts import Facts
 >>> from unseendials.worlds import World
 >>> World(3, {}, {'a': [0, 1, 1], 'b': [0, 0, 2]}, Facts(('a', 'b')))
@@ -85,6 +109,24 @@ raises BrokenFact(low='a', high='b', at=1)
 >>> tale = Tale(lt('ffx', 'fx'), lt('hx', 'hfx'))
 >>> [fewest_cases(tale), standing(tale, height=0).height, standing(tale, height=1)]
 [1, 0, None]
+
+>>> from unseendials.forms import form
+>>> from unseendials.terms import word_term
+>>> form(word_term('fx'), ['x'])
+raises NotRanked(word='fx')
+
+>>> from unseendials.cutworlds import cut_world
+>>> from unseendials.worlds import World
+>>> world = World(4, {'x': 0}, {'f': [0, 3, 3, 3], 'g': [1, 1, 1, 1]})
+>>> cut = cut_world(world, {'u': 3})
+>>> [cut.place_of('u'), cut.table_of('f'), cut.table_of('g')]
+[1, [0, 3, 3, 3, 4], [0, 0, 0, 4, 4]]
+
+>>> from unseendials.facts import Facts
+>>> from unseendials.terms import word_term
+>>> from unseendials.turning import turn_term
+>>> turn_term(word_term('ax') & word_term('Afy'), Facts(paired='a')).written()
+'(Ax | afy)'
 """
 
 
@@ -107,7 +149,7 @@ class TestExamples(unittest.TestCase):
 
     def test_all(self):
         blocks = EXAMPLES.strip().split("\n\n")
-        self.assertEqual(len(blocks), 13)
+        self.assertEqual(len(blocks), 20)
         for block in blocks:
             names = {}
             lines = block.split("\n") + [">>> None"]

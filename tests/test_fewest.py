@@ -66,6 +66,17 @@ class TestFewest(DialCase):
             self.assertEqual(self.right(tale, facts), many)
             self.assertEqual(fewest_by_hand(tale, facts, 1), many)
 
+    def test_two_cases_and_ten_tails(self):
+        for rows, facts in [
+                ("fz < hx, gx < fz, gx < gy, fy < gz", Facts(("1", "h"), ("h", "f"))),
+                ("fz < gy, u < fy, gy < gz, gx < gz, x < fu, y < fu, fz < x", Facts(("1", "g"))),
+                ("fgy < y, fgx < gy, fy < fgy, ffy < fgx, fgy < x, fx < fgy, fy < fx, fy < ggx, "
+                 "ggx < gy", Facts(("f", "g"), ("f", "1")))]:
+            tale = Tale.listed([lt(*row.split(" < ")) for row in rows.split(", ")])
+            self.assertIn(len(tale.tail_list()), (9, 10))
+            self.assertEqual(self.right(tale, facts), 2)
+            self.assertIsNone(fewest_by_hand(tale, facts, 1))
+
     def test_strict(self):
         for tale, facts in tales_with_facts(91, 14, 5, 5):
             if not facts.paired:

@@ -39,6 +39,20 @@ FUNCTIONS = {
     "leastchain": "least_chain(tale,facts=None) chain_world(tale,facts=None) "
                   "chain_tree(tale,facts=None,*,steps)",
     "following": "follows(tale,comparison,facts=None) consequences(tale,facts=None)",
+    "sureness": "failing_world(claim,facts=None) denial_tree(claim,facts=None) "
+                "sure(claim,facts=None) term_below(s,t,facts=None) alike(s,t,facts=None) "
+                "parting_world(s,t,facts=None)",
+    "cuts": "walk_cuts(words,facts=None) is_cut(cut,words,facts=None) "
+            "cut_witness(cut,words,facts=None) true_at(term,cut)",
+    "forms": "form(term,words=None,facts=None) form_term(cuts) parting_cut(s,t,facts=None)",
+    "choices": "walk_choices(words,facts=None) count_terms(words,facts=None) "
+               "choice_term(choice,words) failing_counts(claim,facts=None)",
+    "thinning": "thin_rows(term,facts=None)",
+    "mirror": "backward_head(head,facts=None) mirror_claim(claim,facts=None) "
+              "mirror_term(term,facts=None)",
+    "cutworlds": "cut_world(world,numbers) point_numbers(world) failing_numbers(claim,world)",
+    "turning": "turn_word(word,facts=None) turn_tale(tale,facts=None) turn_claim(claim,facts=None) "
+               "turn_term(term,facts=None) turn_world(world)",
 }
 CLASSES = {
     ("facts", "Facts"): "__init__(self,*below,paired='') listed(pairs,paired='') "
@@ -79,6 +93,10 @@ CLASSES = {
     ("fewest", "Standing"): "__init__(self,height,answers) answer_of(self,p,q)",
     ("setworlds", "SetWorld"): "__init__(self,tale,facts=None) set_of(self,word) "
                                "shown_by(self,dial,words) bears(self)",
+    ("claims", "Claim"): "__init__(self,sayings) named(**sayings) saying(above,below,label='u') "
+                         "of(*comparisons) label_list(self) word_list(self) point_list(self) "
+                         "side_of(self,label) denial(self) holds_in(self,world) "
+                         "__add__ __len__ __eq__",
 }
 
 

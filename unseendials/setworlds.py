@@ -30,10 +30,10 @@ class SetWorld:
         """Return what the dial shows at the set of these words."""
         if not is_small(dial):
             raise BadLetter(dial)
-        # The words stand in the set: 1 puts nothing in front of them.
         tops = [word for word in self._sets
                 if is_small(word[0]) and word[1:] in words and self._known.under(word[0], dial)]
         shown = [low for top in tops for low in self._sets[top]]
+        # A word behind 1 is the word itself.
         if self._known.under("1", dial):
             shown.extend(words)
         return word_ordered(shown)
