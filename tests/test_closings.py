@@ -95,6 +95,9 @@ class TestClosing(DialCase):
         closing = closing_of(Tale(lt("x", "y"), le("y", "z"), words=["fx", "fz"]))
         self.assertTrue(closing.holds("fx", "fz"))
         self.assertFalse(closing.holds("z", "x"))
+        weak = Tale(lt("fx", "fy"))
+        self.assertIs(closing_of(weak).holds("x", "y"), False)
+        self.assertIs(closing_of(weak, None, strict=True).holds("x", "y"), True)
 
     def test_example(self):
         closing = Closing(['fx', 'fy'], None, [('x', 'y')])

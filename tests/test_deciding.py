@@ -56,6 +56,12 @@ class TestDecide(DialCase):
         self.assertIn(True, met)
         self.assertIn(False, met)
 
+    def test_cases_are_about_words_that_begin_differently(self):
+        tale = Tale(lt("hfz", "hfx"), lt("kfx", "kfz"), words=["y"])
+        self.assertFalse(self.right(tale, None))
+        tree = decide(tale)
+        self.assertEqual({tree.first, tree.second}, {"x", "z"})
+
     def test_empty_tale(self):
         for facts in SOME_FACTS + [None]:
             self.assertTrue(self.right(Tale(), facts))
@@ -138,6 +144,7 @@ class TestIsRefutation(DialCase):
         for node in (Node(), None, "x", 3, Case("x", "x", leaf, None), Case("x", "x", Node(), leaf),
                      Case("x", "x", leaf, "leaf")):
             self.assertIs(is_refutation(node, tale), False)
+            self.assertIs(is_refutation(node, tale, steps=2), False)
 
     def test_crowdings(self):
         tale = Tale(lt("x", "fx"), lt("fx", "ffx"))

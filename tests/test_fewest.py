@@ -66,12 +66,20 @@ class TestFewest(DialCase):
             self.assertEqual(self.right(tale, facts), many)
             self.assertEqual(fewest_by_hand(tale, facts, 1), many)
 
+    def test_cases_are_about_words_that_begin_differently(self):
+        tale = Tale(lt("hfz", "hfx"), lt("kfx", "kfz"), words=["y"])
+        self.assertEqual(self.right(tale, Facts()), 1)
+
     def test_two_cases_and_ten_tails(self):
         for rows, facts in [
                 ("fz < hx, gx < fz, gx < gy, fy < gz", Facts(("1", "h"), ("h", "f"))),
                 ("fz < gy, u < fy, gy < gz, gx < gz, x < fu, y < fu, fz < x", Facts(("1", "g"))),
                 ("fgy < y, fgx < gy, fy < fgy, ffy < fgx, fgy < x, fx < fgy, fy < fx, fy < ggx, "
-                 "ggx < gy", Facts(("f", "g"), ("f", "1")))]:
+                 "ggx < gy", Facts(("f", "g"), ("f", "1"))),
+                ("fgy < x, x < hgy, hgy < fgx, hgy < gx, fgy < y, y < fy, hx < x", Facts()),
+                ("y < gx, kx < gx, kx < ky, hgky < hx, kx < hx, y < hhx, hx < ky", Facts(("f", "h"))),
+                ("x < fhfx, hfx < hy, ggx < ffx, fy < fhfx, hfx < gx, fy < fx", Facts()),
+                ("gy < ax, dy < ky, ddy < ky, kdy < aax, aax < ddy, dx < ddy", Facts(("a", "g")))]:
             tale = Tale.listed([lt(*row.split(" < ")) for row in rows.split(", ")])
             self.assertIn(len(tale.tail_list()), (9, 10))
             self.assertEqual(self.right(tale, facts), 2)
@@ -89,6 +97,7 @@ class TestFewest(DialCase):
         self.assertEqual(self.right(CYCLE, Facts(), strict=True), 0)
         weak = Tale(le("fx", "fy"), lt("y", "x"))
         self.assertIsNone(fewest_cases(weak))
+        self.assertIsNone(fewest_tree(weak))
         self.assertEqual(self.right(weak, Facts(), strict=True), 0)
         self.assertIsNone(fewest_tree(Tale(lt("x", "y")), strict=True))
 

@@ -1,7 +1,7 @@
 """Choices: sets of possible cuts, one for each different term; and failing rows counted."""
 
 from unseendials.bounds import bounded_tails
-from unseendials.cuts import check_cut_words, ordered_parts, possible_cuts
+from unseendials.cuts import check_cut_words, possible_cuts
 from unseendials.facts import told_facts
 from unseendials.fitting import fitting_tails
 from unseendials.forms import form_term

@@ -84,9 +84,6 @@ class Claim:
                     for one in above for other in below])
 
     def __add__(self, other):
-        for label in other.label_list():
-            if label in self._sides:
-                raise BadSaying(label)
         return Claim([(label, *claim.side_of(label)) for claim in (self, other)
                       for label in claim.label_list()])
 

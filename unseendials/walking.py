@@ -3,28 +3,28 @@
 from unseendials.trees import Case, Crowd, Leaf
 
 
-def _leaf_closes(leaf, frame, relation, bars):
-    if leaf.first not in frame.numbers or leaf.second not in frame.numbers:
+def _leaf_closes(node, frame, relation, bars):
+    if node.first not in frame.numbers or node.second not in frame.numbers:
         return False
-    bar = frame.pair_of(leaf.second, leaf.first)
+    bar = frame.pair_of(node.second, node.first)
     return bar in bars and relation.holds(*bar)
 
 
-def _case_closes(case, frame, relation, bars, steps):
-    if case.first not in frame.numbers or case.second not in frame.numbers:
+def _case_closes(node, frame, relation, bars, steps):
+    if node.first not in frame.numbers or node.second not in frame.numbers:
         return False
-    one, other = frame.pair_of(case.first, case.second)
-    return (refutes(case.left, frame, relation.grown(one, other), bars, steps)
-            and refutes(case.right, frame, relation.grown(other, one), bars, steps))
+    one, other = frame.pair_of(node.first, node.second)
+    return (refutes(node.left, frame, relation.grown(one, other), bars, steps)
+            and refutes(node.right, frame, relation.grown(other, one), bars, steps))
 
 
-def _crowd_closes(crowd, frame, relation, bars, steps):
-    if steps is None or len(crowd.crowd) != steps + 1 or len(crowd.branches) != steps:
+def _crowd_closes(node, frame, relation, bars, steps):
+    if steps is None or len(node.crowd) != steps + 1 or len(node.branches) != steps:
         return False
-    if not all([word in frame.numbers for word in crowd.crowd]):
+    if not all([word in frame.numbers for word in node.crowd]):
         return False
-    row = [frame.numbers[word] for word in crowd.crowd]
-    for at, branch in enumerate(crowd.branches):
+    row = [frame.numbers[word] for word in node.crowd]
+    for at, branch in enumerate(node.branches):
         if not refutes(branch, frame, relation.grown(row[at + 1], row[at]), bars, steps):
             return False
     return True
