@@ -153,10 +153,17 @@ def faults_of_attributes(package):
                   and isinstance(node.ctx, ast.Store)}
         faults.extend(f"L18 {name} is a method and an attribute" for name in own & stored)
         faults.extend(f"L26 attribute {name}" for name in stored & NO_ATTRIBUTES)
-        names = [part.name for part in kind.body if isinstance(part, ast.FunctionDef)]
+        names = [part.name for part in kind.body if isinstance(part, ast.FunctionDef)
+                 and not is_setter(part)]
         if len(names) != len(set(names)):
             faults.append(f"L18 a method of {kind.name} stands twice")
     return faults
+
+
+def is_setter(node):
+    """Return whether a method is the setter of a property, which stands as name.setter over it."""
+    names = [ast.unparse(decorator) for decorator in node.decorator_list]
+    return names == [node.name + ".setter"] and len(node.args.args) == 2
 
 
 def faults_of_node(node, tree, package):
@@ -232,8 +239,9 @@ def check_calls(node, package):
         called = isinstance(node.parent, ast.Call) and node.parent.func is node
         if called and node.attr not in package.methods | METHODS | {"__init__"}:
             yield f"L25 method {node.attr}"
-        if not called and node.attr not in package.set_attributes | package.methods \
-                | package.class_values:
+        setter = node.attr == "setter" and node in getattr(node.parent, "decorator_list", [])
+        if not called and not setter \
+                and node.attr not in package.set_attributes | package.methods | package.class_values:
             yield f"L18 attribute {node.attr}"
     if not isinstance(node, ast.Call):
         return
@@ -283,7 +291,7 @@ def check_function(node, tree):
     for decorator in node.decorator_list:
         plain = isinstance(decorator, ast.Name) and isinstance(node.parent, ast.ClassDef) \
             and decorator.id in ("property", "staticmethod", "classmethod")
-        if not plain:
+        if not plain and not is_setter(node):
             yield "L4 decorator"
     taken = {alias.name for part in tree.body if isinstance(part, ast.ImportFrom)
              for alias in part.names}

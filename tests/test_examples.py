@@ -66,6 +66,70 @@ True
 >>> failing_numbers(claim, world)
 {'u': 3, 'v': 2}
 
+>>> from unseendials.claims import Claim
+>>> from unseendials.headorders import head_order
+>>> head_order(Claim.saying(['fx'], ['x']))
+[[('u', '')], [('u', 'f')]]
+
+>>> from unseendials.knots import knot_world
+>>> from unseendials.rankings import Ranking
+>>> from unseendials.refining import refine
+>>> parted = refine(Ranking([['x'], ['y'], ['fx', 'fy']]))
+>>> world = knot_world(parted)
+>>> [list(parted), world.knot_table('f'), world('ffx'), world.taken_back('f', (3, 1))]
+[[('x',), ('y',), ('fx',), ('fy',)], [10, 15, 16, 17], (16, 5), (1, 1)]
+
+>>> from unseendials.comparisons import Tale, le, lt
+>>> from unseendials.deciding import possible
+>>> from unseendials.strictly import strictly_follows, strictly_possible
+>>> tale = Tale(le('fx', 'fy'), lt('y', 'x'))
+>>> [possible(tale), strictly_possible(tale), strictly_follows(Tale(le('fx', 'fy')), le('x', 'y'))]
+[True, False, True]
+
+>>> from unseendials.blocks import block_world
+>>> from unseendials.claims import Claim
+>>> from unseendials.codes import code_three
+>>> from unseendials.worlds import World
+>>> three = code_three(Claim.saying(['fx'], ['x']))
+>>> world = block_world(World(2, {'x': 0}, {'f': [1, 1]}), three)
+>>> [three.told_letters, world.table_of('a'), world.table_of('b'), world.table_of('c'), world('cbax')]
+[(('f', 'cba'),), [0, 3, 4, 5, 5, 5], [0, 1, 2, 4, 4, 5], [0, 0, 0, 1, 2, 5], 2]
+
+>>> from unseendials.stacks import stack, sub_world
+>>> from unseendials.worlds import World
+>>> whole, firsts = stack(World(2, {}, {'f': [1, 1]}), World(3, {}, {'f': [0, 0, 2]}))
+>>> part = sub_world(whole, [1, 2, 4])
+>>> [whole.table_of('f'), firsts, part.table_of('f')]
+[[1, 1, 2, 2, 4], [0, 2], [0, 1, 2]]
+>>> sub_world(whole, [0, 3])
+raises BadStand(at=(0, 3))
+
+>>> from unseendials.sketches import Sketch
+>>> from unseendials.readings import shown_steps
+>>> sketch = Sketch(4, places={'x': 1})
+>>> sketch.read('g', 0, 1)
+>>> sketch.read('g', 2, 2)
+>>> sketch.read('f', 1, 1)
+>>> sketch.read('f', 2, 3)
+>>> shown_steps('fgx', sketch)
+[1, 3]
+
+>>> from unseendials.worlds import World
+>>> from unseendials.runsof import fewest_readings
+>>> world = World(4, {'x': 1}, {'f': [2, 2, 2, 2], 'g': [0, 1, 1, 2], 'h': [0, 0, 3, 3]})
+>>> fewest_readings('fghx', world)
+[('f', 0, 2), ('f', 3, 2)]
+
+>>> from unseendials.claims import Claim
+>>> from unseendials.comparisons import le
+>>> from unseendials.desk import Desk
+>>> from unseendials.facts import Facts
+>>> desk = Desk(Facts(('1', 'f')))
+>>> desk.tell(le('x', 'fx'))
+>>> found = desk.deciders(Claim.of(le('x', 'y')))
+>>> [len(found), found[0].written(), found[1].written()]
+[2, 'x <= y', 'fx <= y']
+
 >>> from unseendials.facts import Facts
 >>> from unseendials.worlds import World
 >>> World(3, {}, {'a': [0, 1, 1], 'b': [0, 0, 2]}, Facts(('a', 'b')))
@@ -149,7 +213,7 @@ class TestExamples(unittest.TestCase):
 
     def test_all(self):
         blocks = EXAMPLES.strip().split("\n\n")
-        self.assertEqual(len(blocks), 20)
+        self.assertEqual(len(blocks), 28)
         for block in blocks:
             names = {}
             lines = block.split("\n") + [">>> None"]

@@ -53,6 +53,27 @@ FUNCTIONS = {
     "cutworlds": "cut_world(world,numbers) point_numbers(world) failing_numbers(claim,world)",
     "turning": "turn_word(word,facts=None) turn_tale(tale,facts=None) turn_claim(claim,facts=None) "
                "turn_term(term,facts=None) turn_world(world)",
+    "headorders": "head_order(claim,facts=None)",
+    "strictness": "is_strict(ranking,facts=None) walk_strict(words,facts=None)",
+    "refining": "refine(ranking,facts=None)",
+    "knots": "knot_world(ranking,facts=None)",
+    "strictly": "strictly_decide(tale,facts=None) strictly_possible(tale,facts=None) "
+                "strictly_follows(tale,comparison,facts=None) strict_failing(claim,facts=None)",
+    "codes": "code_points(claim,facts=None) code_labels(claim,facts=None) code_three(claim) "
+             "code_two(claim)",
+    "blocks": "points_world(world,coded) labels_world(world,claim,coded) block_world(world,coded) "
+              "plain_world(world,coded,facts=None)",
+    "twodials": "two_ranking(claim,knots_world)",
+    "stacks": "stack(*worlds) stack_list(worlds) sub_world(world,chosen) "
+              "one_for_all(claims,facts=None)",
+    "readings": "least_value(term,sketch) greatest_value(term,sketch) walk_rows(words,sketch) "
+                "shown_steps(word,sketch)",
+    "weighing": "count_worlds(sketch,dials) count_holding(claim,sketch,dials)",
+    "papers": "is_paper(entries,word,world) thin_paper(entries,word,world)",
+    "runsof": "low_run(word,world,start) high_run(word,world,start) fewest_readings(word,world) "
+              "floor_readings(word,world)",
+    "trials": "what_if(desk,claim,*,room=None,undone=0,telling=())",
+    "reports": "ranking_lines(ranking) rows_lines(counts,steps) desk_lines(desk)",
 }
 CLASSES = {
     ("facts", "Facts"): "__init__(self,*below,paired='') listed(pairs,paired='') "
@@ -97,6 +118,17 @@ CLASSES = {
                          "of(*comparisons) label_list(self) word_list(self) point_list(self) "
                          "side_of(self,label) denial(self) holds_in(self,world) "
                          "__add__ __len__ __eq__",
+    ("knots", "KnotWorld"): "__init__(self,knots,places,tables,facts=None) point_list(self) "
+                            "dial_list(self) knot_of(self,point) knot_table(self,dial) "
+                            "show(self,dial,number) taken_back(self,dial,number) "
+                            "__call__(self,word) knots facts",
+    ("codes", "Coded"): "__init__(self,kind,claim,told_letters)",
+    ("answers", "Answer"): "__init__(self,verdict,told_by)",
+    ("desk", "Desk"): "__init__(self,facts=None,*,strict=False) set_room(self,most) "
+                      "tell(self,comparison) tell_list(self) ask(self,claim) "
+                      "deciders(self,claim) bearer(self) undo(self) log_lines(self) "
+                      "from_log(facts,lines,*,strict=False) facts strict room",
+    ("trials", "Trial"): "__init__(self,desk) __enter__(self) __exit__",
 }
 
 
@@ -160,7 +192,7 @@ class TestInterface(unittest.TestCase):
                     self.assertIn(part, vars(found))
                     if "(" in line:
                         self.assertEqual(part + signature(getattr(found, part)), line)
-                    if part in ("steps", "facts", "paired"):
+                    if part in ("steps", "facts", "paired", "knots", "strict", "room"):
                         self.assertIsInstance(vars(found)[part], property)
 
 
