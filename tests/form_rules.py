@@ -167,7 +167,8 @@ def is_setter(node):
 
 
 def faults_of_node(node, tree, package):
-    checks = [check_statement, check_expression, check_names, check_calls, check_views, check_sets]
+    checks = [check_statement, check_expression, check_names, check_calls, check_views, check_sets,
+              check_changes]
     faults = [fault for check in checks for fault in check(node, package)]
     if isinstance(node, ast.FunctionDef):
         faults.extend(check_function(node, tree))
@@ -283,6 +284,33 @@ def check_sets(node, package):
         and parent.func.id in ("sorted", "len") and not parent.keywords
     if not taken and not isinstance(parent, ast.Compare):
         yield "L24 set"
+
+
+def check_changes(node, package):
+    """Look for `extend`, `update`, `+=` and `|=` that get what they change, or a part of it.
+
+    A syntax tree does not tell whether an item is a list or a number, so each item counts.
+    """
+    if isinstance(node, ast.AugAssign) and isinstance(node.op, (ast.Add, ast.BitOr)):
+        changed, got = node.target, [node.value]
+    elif isinstance(node, ast.Call) and isinstance(node.func, ast.Attribute) \
+            and node.func.attr in ("extend", "update"):
+        changed, got = node.func.value, node.args
+    else:
+        return
+    if wholes_of(changed) & {whole for value in got for whole in wholes_of(value)}:
+        yield "L23 gets what it changes"
+
+
+def wholes_of(node):
+    """Return the texts of what an expression is, or is an item of, one for each of its choices."""
+    if isinstance(node, ast.Subscript):
+        return wholes_of(node.value)
+    if isinstance(node, ast.IfExp):
+        return wholes_of(node.body) | wholes_of(node.orelse)
+    if isinstance(node, ast.BoolOp):
+        return {whole for value in node.values for whole in wholes_of(value)}
+    return {ast.unparse(node)}
 
 
 def check_function(node, tree):

@@ -170,6 +170,25 @@ class TestRules(unittest.TestCase):
                 faults = faults_of({"some.py": text})
                 self.assertTrue(any(fault.startswith(rule) for fault in faults), faults)
 
+    def test_rows_that_get_what_they_change(self):
+        found = [
+            "xs[at] += xs[at - n]", "xs[at - n] += xs[at]", "xs[at] |= xs[n]", "xs[0][1] += xs[1][0]",
+            "self.xs[at] += self.xs[n]", "xs += xs", "xs += xs[at]", "xs[at] += xs", "xs += xs[1:]",
+            "xs[at] += xs[n] if n else 0", "xs[at] += n or xs[n]", "xs.extend(xs)",
+            "xs.extend(xs[at])", "xs[at].extend(xs[n])", "d.update(d)", "d.update(d[at])",
+        ]
+        free = [
+            "xs[at] = xs[at] + xs[n]", "xs[at] += ys[at]", "xs[at] += 1", "xs += list(xs)",
+            "xs[at] += ys[xs[n]]", "xs[at] -= xs[n]", "xs.extend(list(xs))", "xs.extend(ys[at])",
+            "xs += [x + n for x in xs]", "d.update(dict(d))", "xs[at] += xs[n] * 1",
+        ]
+        for row in found + free:
+            with self.subTest(row=row):
+                told = faults_of({"some.py": f"def f(self, xs, ys, d, at, n):\n    {row}\n"})
+                alike = [fault for fault in told if fault.startswith("L23 gets what it changes")]
+                self.assertEqual(alike, ["L23 gets what it changes, line 2 (some.py)"]
+                                 if row in found else [])
+
 
 class TestInterface(unittest.TestCase):
 

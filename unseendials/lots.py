@@ -90,7 +90,7 @@ class Lot:
         sums = [*ways, 0]
         for stride, places in self._grids[step].climbs:
             for at in places:
-                sums[at] += sums[at - stride]
+                sums[at] = sums[at] + sums[at - stride]
         return [sums[at] for at in self._onward[step]]
 
     def counts(self, rows):
@@ -128,5 +128,5 @@ def _ways_behind(rests, before, after):
     sums = [*rests, 0]
     for stride, places in after.climbs:
         for at in reversed(places):
-            sums[at - stride] += sums[at]
+            sums[at - stride] = sums[at - stride] + sums[at]
     return [sums[at] for at in before.nearest_places(after)]
